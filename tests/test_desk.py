@@ -1,47 +1,11 @@
 """The calls and their answers, as tripunits.desk.answers takes and gives them."""
 
+import time
 import unittest
 
+from calling import DAILY, TOP, UNITS, WHY, ask, begins, drop, empty, flat, follow, remove, trip, without
 from tripunits.desk import answer_of, answers
 from tripunits.plan import Plan
-
-TOP = 4294967295
-
-
-def begins(turns):
-    return [0, len(turns)] + list(turns)
-
-
-def empty(source, target, minutes):
-    return [1, source, target, minutes]
-
-
-def remove(source, target):
-    return [2, source, target]
-
-
-def trip(source, target, first, last):
-    return [3, source, target, first, last]
-
-
-def drop(k):
-    return [4, k]
-
-
-def ask(*calls):
-    """The first number of each answer, once its form is checked."""
-    told = answers([number for call in calls for number in call])
-    firsts = []
-    at = 0
-    while at < len(told):
-        size = told[at]
-        assert size == 1, told
-        firsts.append(told[at + 1])
-        at += 1 + size
-    assert len(firsts) == len(calls), told
-    assert all(type(number) is int for number in told), told
-    return firsts
-
 
 TEN_TRIPS = [trip(0, 1, k, k + 1) for k in range(10)]
 
@@ -194,7 +158,7 @@ class Drop(unittest.TestCase):
 
 
 class NumbersOfACall(unittest.TestCase):
-    """Which number of a call is which: of these calls the answers alone do not tell source from target."""
+    """Which number of a call is which, seen in the plan itself."""
 
     def test_each_in_its_place(self):
         plan = Plan()
@@ -212,12 +176,55 @@ class NumbersOfACall(unittest.TestCase):
         self.assertEqual(plan.trips, [(2, 0, 70, 80)])
 
 
+# All ten calls, 40 in one list, each with what is answered to it.
+MIXED = [
+    (UNITS, [0, 1, 1]), (WHY, [0, 0, 0]), (DAILY, [0, 1, 1]), (without(0), [-2]), (follow(0, 0), [-2]), (drop(0), [-2]),
+    (begins([5, 7]), [2]), (empty(0, 1, 30), [0]), (trip(0, 1, 100, 200), [0]), (trip(1, 0, 207, 300), [1]),
+    (follow(0, 1), [0, 1, 207]), (follow(1, 0), [1, 1, 305]), (follow(0, 0), [-6]), (follow(0, 2), [-2]),
+    (UNITS, [1, 1, 1, 2, 0, 1]), (WHY, [1, 0, 1, 1]), (DAILY, [1, 1, 1, 2, 0, 1]), (without(0), [1]),
+    (trip(0, 0, 10, 95), [2]), (UNITS, [1, 1, 1, 3, 2, 0, 1]), (WHY, [2, 0, 2, 0, 1]), (DAILY, [1, 1, 1, 3, 0, 1, 2]),
+    (trip(1, 1, 10, 95), [3]), (UNITS, [2, 1, 2, 3, 2, 0, 1, 1, 3]), (WHY, [2, 0, 2, 0, 1]),
+    (DAILY, [2, 1, 2, 3, 0, 1, 2, 1, 3]), (without(2), [2]), (without(3), [1]), (without(4), [-2]),
+    (remove(0, 1), [0]), (remove(0, 2), [-2]), (drop(1), [0]), (DAILY, [-6]), (trip(1, 1, 5, 5), [-1]),
+    (UNITS, [2, 1, 1, 2, 1, 0, 1, 2]), (WHY, [1, 0, 1, 0]), (begins([1441]), [-1]), (without(0), [2]),
+    (begins([]), [0]), (UNITS, [0, 1, 1]),
+]
+
+
 class Form(unittest.TestCase):
-    calls = (begins([1, 2]) + empty(0, 1, 7) + trip(0, 1, 3, 4) + trip(0, 3, 3, 4) + remove(0, 1) + trip(1, 1, 3, 4)
-             + drop(1) + begins([]) + drop(0))
+    calls = flat(call for call, _ in MIXED)
 
     def test_each_answer_behind_its_length(self):
-        self.assertEqual(answers(self.calls), [1, 2, 1, 0, 1, 0, 1, -2, 1, 0, 1, 1, 1, 0, 1, 0, 1, -2])
+        calls = (begins([1, 2]) + empty(0, 1, 7) + trip(0, 1, 3, 4) + trip(0, 3, 3, 4) + remove(0, 1) + trip(1, 1, 3, 4)
+                 + drop(1) + begins([]) + drop(0))
+        self.assertEqual(answers(calls), [1, 2, 1, 0, 1, 0, 1, -2, 1, 0, 1, 1, 1, 0, 1, 0, 1, -2])
+
+    def test_each_list_behind_its_length(self):
+        calls = [0, 1, 5] + [3, 0, 0, 10, 20] + [3, 0, 0, 25, 30]
+        told = [1, 1] + [1, 0] + [1, 1]
+        self.assertEqual(answers(calls + [5, 0, 1]), told + [3, 0, 1, 25])
+        self.assertEqual(answers(calls + [6]), told + [6, 1, 1, 1, 2, 0, 1])
+        self.assertEqual(answers(calls + [7]), told + [4, 1, 0, 1, 1])
+        self.assertEqual(answers(calls + [8]), told + [6, 1, 1, 1, 2, 0, 1])
+        self.assertEqual(answers(calls + [9, 0]), told + [1, 1])
+        self.assertEqual(answers([6, 7, 8]), [3, 0, 1, 1, 3, 0, 0, 0, 3, 0, 1, 1])
+        self.assertEqual(answers([5, 0, 0, 9, 0, 6]), [1, -2, 1, -2, 3, 0, 1, 1])
+
+    def test_all_ten_calls_mixed(self):
+        self.assertEqual(len(MIXED), 40)
+        self.assertEqual({call[0] for call, _ in MIXED}, set(range(10)))
+        self.assertEqual(answers(self.calls), flat([len(told)] + told for _, told in MIXED))
+
+    def test_ten_trips_many_times(self):
+        crowds = ([(k // 5, k // 5 + 1) for k in range(10)], [(k, k + 1) for k in range(10)], [(0, 1)] * 10,
+                  [(7 * k % 10, 7 * k % 10 + 3) for k in range(10)])
+        for crowd in crowds:
+            calls = [0, 1, 0] + flat(trip(0, 0, first, last) for first, last in crowd)
+            once = answers(calls + [6, 7, 8])[22:]
+            before = time.monotonic()
+            # 30 calls on ten trips are one more than a line has: what fits in one is answered sooner
+            self.assertEqual(answers(calls + [6, 7, 8] * 10)[22:], once * 10)
+            self.assertLess(time.monotonic() - before, 10)
 
     def test_one_call(self):
         self.assertEqual(answers([0, 0]), [1, 0])

@@ -52,6 +52,15 @@ def bound_names(tree):
             yield node.attr
 
 
+def top_names(tree):
+    names = [node.name for node in tree.body if isinstance(node, (ast.FunctionDef, ast.ClassDef))]
+    return names + [target.id for node in tree.body if isinstance(node, ast.Assign) for target in node.targets]
+
+
+def imports(tree):
+    return [(node.module, alias.name) for node in tree.body if isinstance(node, ast.ImportFrom) for alias in node.names]
+
+
 class Language(unittest.TestCase):
     def test_files(self):
         self.assertIn(PACKAGE / "__init__.py", package_files())
@@ -111,6 +120,45 @@ class Language(unittest.TestCase):
                     self.assertIn(node.id, BUILTINS, (path, node.lineno))
                 if isinstance(node, ast.Attribute) and node.attr in PYTHONS_OWN:
                     self.assertIn(node.attr, METHODS, (path, node.lineno))
+
+    def test_each_name_once(self):
+        for path, tree in trees():
+            names = top_names(tree) + [name for _, name in imports(tree)]
+            self.assertEqual(len(names), len(set(names)), path)
+            taken = [name for _, name in imports(tree)]
+            taken += [node.name for node in tree.body if isinstance(node, ast.ClassDef)]
+            for node in ast.walk(tree):
+                if isinstance(node, ast.FunctionDef):
+                    self.assertFalse(set(bound_names(node)) & set(taken), (path, node.name))
+
+    def test_imports(self):
+        defined = {"tripunits." + path.stem: top_names(tree) for path, tree in trees()}
+        drawn = {"tripunits." + path.stem: imports(tree) for path, tree in trees()}
+        for rows in drawn.values():
+            for module, name in rows:
+                self.assertIn(name, defined[module])
+        left = dict(drawn)
+        while left:
+            free = [file for file in left if not any(module in left for module, _ in left[file])]
+            self.assertTrue(free, "files draw from one another: " + ", ".join(sorted(left)))
+            left = {file: left[file] for file in left if file not in free}
+
+    def test_two_forms(self):
+        for path, tree in trees():
+            for node in ast.walk(tree):
+                where = (path, getattr(node, "lineno", 0))
+                if isinstance(node, ast.Assign):
+                    self.assertEqual(len(node.targets), 1, where)
+                    self.assertNotIsInstance(node.targets[0], (ast.Tuple, ast.List), where)
+                if isinstance(node, ast.Compare) and isinstance(node.ops[0], (ast.Is, ast.IsNot)):
+                    self.assertIn(ast.unparse(node.comparators[0]), ("None", "True", "False"), where)
+                if isinstance(node, (ast.For, ast.While)):
+                    self.assertFalse(node.orelse, where)
+                if isinstance(node, ast.ListComp):
+                    self.assertEqual(len(node.generators), 1, where)
+                    self.assertLessEqual(len(node.generators[0].ifs), 1, where)
+                if isinstance(node, ast.BinOp):
+                    self.assertNotIsInstance(node.op, ast.Pow, where)
 
 
 if __name__ == "__main__":

@@ -1,4 +1,4 @@
-"""What a plan holds behind each call: the answers alone do not show it."""
+"""What a plan holds behind each call, seen in the plan itself."""
 
 import unittest
 

@@ -8,6 +8,7 @@ LAST_MINUTE = 10000
 OUT_OF_BOUNDS = -1
 NO_SUCH = -2
 FULL = -5
+NEVER = -6
 
 
 # What a method refuses it refuses ahead of any change, so that a refused call leaves all as it was;
@@ -56,7 +57,7 @@ class Plan:
         return len(self.trips) - 1
 
     def drop_trip(self, k):
-        if k >= len(self.trips):
+        if not self.has_trip(k):
             return NO_SUCH
         self.trips.pop(k)
         return 0
@@ -70,3 +71,17 @@ class Plan:
 
     def has_stops(self, source, target):
         return source < len(self.turns) and target < len(self.turns)
+
+    def has_trip(self, k):
+        return k < len(self.trips)
+
+    # one and other are trips themselves, not their numbers, so that it can be asked of trips
+    # that stand otherwise than in this plan
+    def ready(self, one, other):
+        stop = one[1]
+        turned = one[3] + self.turns[stop]
+        if other[0] == stop:
+            return turned
+        if (stop, other[0]) in self.runs:
+            return turned + self.runs[(stop, other[0])]
+        return None
